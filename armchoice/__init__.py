@@ -1,0 +1,1 @@
+"""Bandits with exact probabilities: which of several covers to show."""
