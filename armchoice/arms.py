@@ -26,3 +26,12 @@ class Arm:
     def variance(self):
         total = self.alpha + self.beta
         return Ratio(self.alpha * self.beta, total * total * (total + 1))
+
+    def after(self, result):
+        return Arm(self.a, self.b, self.successes + result, self.failures + 1 - result)
+
+
+def arms_after(arms, place, result):
+    following = list(arms)
+    following[place] = arms[place].after(result)
+    return following

@@ -15,6 +15,10 @@ class Bandit:
     def arm_count(self):
         return len(self.parameters)
 
+    # Without arms nothing is left to be assumed.
+    def has_truth(self):
+        return len(self.truth) == self.arm_count()
+
     def check_arm(self, place):
         if place >= self.arm_count():
             raise NoSuchArm()

@@ -8,7 +8,7 @@ CREATE = 0
 SET_TRUTH = 4
 
 # How many numbers follow the number of a call; for set_truth this stands in the list itself.
-ARGUMENT_COUNTS = (0, 2, 2, 0, None, 1, 1, 1, 3, 1, 2, 0, 2, 2)
+ARGUMENT_COUNTS = (0, 2, 2, 0, None, 1, 1, 1, 3, 1, 2, 0, 2, 2, 3, 1, 2, 3, 3, 3, 3, 1, 1, 4, 4, 0, 0)
 
 
 def split_calls(calls):

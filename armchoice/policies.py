@@ -1,6 +1,10 @@
-"""The policies: with which probabilities each of them chooses each arm."""
+"""The policies: with which probabilities each of them chooses each arm.
 
-from armchoice.probabilities import probability_of_best
+Shares are whole numbers, one for each arm: the propensity of an arm is its share
+of their sum. For one policy, arms with as many trials in all have the same sum.
+"""
+
+from armchoice.probabilities import shares_of_best
 from armchoice.ratios import Ratio
 
 OPTIMISTIC = 1
@@ -23,6 +27,10 @@ def greedy_arm(arms):
     return place_of_greatest([arm.mean() for arm in arms])
 
 
+def greatest_mean(arms):
+    return arms[greedy_arm(arms)].mean()
+
+
 def optimistic_arm(arms, bonus):
     return place_of_greatest([arm.index_for(bonus) for arm in arms])
 
@@ -43,19 +51,22 @@ def chosen_arm(policy, parameter, arms):
 
 
 # So many thousandths are shared by all arms alike; the chosen arm has the rest as well.
-def mixed_propensities(arms, chosen, thousandths):
-    whole = 1000 * len(arms)
-    propensities = [Ratio(thousandths, whole) for arm in arms]
-    propensities[chosen] = Ratio(thousandths + (1000 - thousandths) * len(arms), whole)
-    return propensities
+def mixed_shares(arms, chosen, thousandths):
+    shares = [thousandths for arm in arms]
+    shares[chosen] += (1000 - thousandths) * len(arms)
+    return shares
 
 
-def policy_propensities(policy, parameter, arms):
+def policy_shares(policy, parameter, arms):
     if policy == MATCHING:
-        return [probability_of_best(arms, place) for place in range(len(arms))]
+        return shares_of_best(arms)
     thousandths = 0
     if policy == NOW_AND_THEN_AT_RANDOM:
         thousandths = parameter
     if policy == AT_RANDOM:
         thousandths = 1000
-    return mixed_propensities(arms, chosen_arm(policy, parameter, arms), thousandths)
+    return mixed_shares(arms, chosen_arm(policy, parameter, arms), thousandths)
+
+
+def propensity(shares, place):
+    return Ratio(shares[place], sum(shares))

@@ -52,13 +52,18 @@ def product(left, right):
 
 
 # From 0 to 1, the integral of x^j * (1 - x)^(n - j) is j! * (n - j)! / (n + 1)!.
+def integral_parts(weights):
+    n = len(weights) - 1
+    row = factorials(n)
+    parts = 0
+    for j, weight in enumerate(weights):
+        parts += weight * row[j] * row[n - j]
+    return parts
+
+
 def integral(weights):
     n = len(weights) - 1
-    row = factorials(n + 1)
-    total = 0
-    for j, weight in enumerate(weights):
-        total += weight * row[j] * row[n - j]
-    return Ratio(total, row[n + 1])
+    return Ratio(integral_parts(weights), factorials(n + 1)[n + 1])
 
 
 def distribution_of_greatest(arms):
@@ -79,9 +84,18 @@ def probability_above(arm, num, den):
     return Ratio(total, powers(den, n)[n])
 
 
-def probability_of_best(arms, place):
+def density_of_best(arms, place):
     others = arms[:place] + arms[place + 1:]
-    return integral(product(density(arms[place]), distribution_of_greatest(others)))
+    return product(density(arms[place]), distribution_of_greatest(others))
+
+
+def probability_of_best(arms, place):
+    return integral(density_of_best(arms, place))
+
+
+# The probabilities of being the best, as parts of the same whole: their sum.
+def shares_of_best(arms):
+    return [integral_parts(density_of_best(arms, place)) for place in range(len(arms))]
 
 
 # The expected value of something between 0 and 1 is the integral of the probability that it is above x.

@@ -20,3 +20,13 @@ class Ratio:
 
     def exceeds(self, other):
         return self.num * other.den > other.num * self.den
+
+    def plus(self, other):
+        return Ratio(self.num * other.den + other.num * self.den, self.den * other.den)
+
+    # The other one may not be the greater one.
+    def minus(self, other):
+        return Ratio(self.num * other.den - other.num * self.den, self.den * other.den)
+
+    def times(self, other):
+        return Ratio(self.num * other.num, self.den * other.den)

@@ -36,3 +36,9 @@ class NothingThere(Refusal):
 
     def __init__(self):
         Refusal.__init__(self, -33)
+
+
+class NoTruth(Refusal):
+
+    def __init__(self):
+        Refusal.__init__(self, -16)
